@@ -1,6 +1,6 @@
 """Charts: places, arrows, how the arrows lie round each place, and the rims between them."""
 
-from bigcorners.errors import BadChart, NoArrow, NoEnd
+from bigcorners.errors import BadChart, NoArrow, NoEnd, Tangled
 from bigcorners.kinds import are_whole, is_between, is_row
 
 MOST_PLACES = 40
@@ -229,6 +229,13 @@ def tangled(chart):
         if changes(row) > 2:
             return place
     return None
+
+
+def keep_untangled(chart):
+    """Raises Tangled for a tangled chart."""
+    place = tangled(chart)
+    if place is not None:
+        raise Tangled(place)
 
 
 def changes(row):

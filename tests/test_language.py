@@ -16,6 +16,12 @@ INTERFACE = {
         "word_at": "chart angle", "asks": "chart", "tips": "chart", "tangled": "chart",
     },
     "judging": {"is_picture": "chart thing", "cost": "chart picture", "big": "chart picture"},
+    "pictures": {"picture": "chart", "drawn": "chart dealing"},
+    "prices": {
+        "is_table": "chart thing", "is_dam": "chart thing", "worth": "chart table", "price": "chart", "table": "chart",
+        "dam": "chart", "turnings": "chart", "fates": "chart", "outers": "chart",
+    },
+    "dealings": {"is_dealing": "chart thing", "count_dealings": "chart", "dealing": "chart number"},
 }
 LIBRARY = {
     "heapq": "heappush heappop heapify heapreplace heappushpop", "math": "gcd lcm isqrt comb perm factorial",
