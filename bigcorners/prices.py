@@ -43,9 +43,7 @@ def is_dam(chart, thing):
     asked = asks(chart)
     if not is_lot(thing) or not all([is_between(rim, 0, len(asked) - 1) for rim in thing]):
         return False
-    inside = [False] * len(asked)
-    for rim in thing:
-        inside[rim] = True
+    inside = [rim in thing for rim in range(len(asked))]
     for (left, right), cost in zip(all_sides(chart), chart.prices):
         if cost is not None and inside[left] != inside[right]:
             return False

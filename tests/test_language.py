@@ -115,6 +115,25 @@ class LanguageTest(unittest.TestCase):
         for name, _, tree in sources():
             self.assertEqual(sorted(barred & set(bound_names(tree))), [], name)
 
+    def test_no_local_name_is_that_of_a_class_or_an_import(self):
+        for name, _, tree in sources():
+            taken = {one.name for node in tree.body if isinstance(node, ast.ImportFrom) for one in node.names}
+            taken |= {node.name for node in tree.body if isinstance(node, ast.ClassDef)}
+            for node in ast.walk(tree):
+                if isinstance(node, ast.FunctionDef):
+                    self.assertEqual(sorted(taken & (set(bound_names(node)) - {node.name})), [], (name, node.name))
+
+    def test_methods_and_attributes_have_names_of_their_own(self):
+        for name, _, tree in sources():
+            for node in ast.walk(tree):
+                if isinstance(node, ast.ClassDef):
+                    methods = {one.name for one in node.body if isinstance(one, ast.FunctionDef)}
+                    attributes = {
+                        one.attr for one in ast.walk(node) if isinstance(one, ast.Attribute)
+                        and not isinstance(one.ctx, ast.Load) and ast.unparse(one.value) == "self"
+                    }
+                    self.assertEqual(sorted(methods & attributes), [], (name, node.name))
+
     def test_is_beside_none_and_flags_alone(self):
         for name, _, tree in sources():
             for node in ast.walk(tree):

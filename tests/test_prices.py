@@ -264,6 +264,15 @@ class TablesAndDamsTest(unittest.TestCase):
             self.assertEqual(sorted(turnings(chart))[-2:], [0, many - 1])
 
 
+    def test_twice_the_same_and_nothing_changed(self):
+        for chart in grown_charts(25, 40, 10, (None, 1, 2)) + great_charts(26, 3):
+            same = changed(chart)
+            for action in (price, table, dam, turnings, outers):
+                self.assertEqual(action(chart), action(chart))
+                self.assertEqual(action(same), action(chart))
+            self.assertEqual(chart, same)
+
+
 class OutersTest(unittest.TestCase):
     def check(self, chart):
         told = outers(chart)
