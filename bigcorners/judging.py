@@ -15,7 +15,7 @@ def is_picture(chart, thing):
     lines = all_lines(chart, thing)
     if not lines_reach(bars, lines) or not keeps_clear(bars, lines):
         return False
-    drawn_rounds = ends_drawn(chart, thing)
+    drawn_rounds = ends_drawn(chart.arrows, thing)
     if not rounds_hold(chart, drawn_rounds):
         return False
     numbers = rim_numbers(chart)
@@ -39,7 +39,7 @@ def big(chart, picture):
     """For each tip, its big angle in a right picture."""
     if not is_picture(chart, picture):
         raise NoPicture()
-    drawn_rounds = ends_drawn(chart, picture)
+    drawn_rounds = ends_drawn(chart.arrows, picture)
     # At a tip all ends are on one side of its bar, and the way round its other side is behind the last one.
     return tuple([drawn_rounds[place][-1] for place in tips(chart)])
 
@@ -154,12 +154,12 @@ def count_less(columns, bound):
     return low
 
 
-def ends_drawn(chart, picture):
+def ends_drawn(arrows, picture):
     """For each place, the ends above its bar from left to right, then those below it from right to left."""
     above = [[] for bar in picture[0]]
     below = [[] for bar in picture[0]]
     for arrow, (columns, _) in enumerate(picture[1]):
-        tail, head = chart.arrows[arrow]
+        tail, head = arrows[arrow]
         above[tail].append((columns[0], 2 * arrow))
         below[head].append((columns[-1], 2 * arrow + 1))
     rows = []

@@ -2,8 +2,12 @@
 
 import random
 
+from bigcorners.benches import Bench
+from bigcorners.books import Book
 from bigcorners.charts import Chart, rim_of, sides
+from bigcorners.desks import Desk
 from bigcorners.errors import BadChart, NoEnd
+from bigcorners.runners import Runner
 
 
 def nested(depth, inner=0, kind=tuple):
@@ -31,6 +35,7 @@ def odd_things():
         (n for n in ()), zip(), lambda: 0, ValueError("x"), NoEnd(), BadChart(("places",)), a_path(), a_ring(),
         Chart, type, "x" * 20000, nested(40), nested(40, 0, list), nested(40, 0, dict), nested(39, ()),
         tuple([None] * 19999), [0] * 19999,
+        Book(1, ((),)), Runner(Book(1, ((),)), (0,)), Bench(a_path()), Desk(), nested(39, Book(1, ((),))),
     ]
 
 
